@@ -1,6 +1,7 @@
 package tests
 
 import (
+	"fmt"
 	"math"
 	"testing"
 
@@ -90,4 +91,118 @@ func sumText(t *testing.T, start int64, s string) int64 {
 		t.Errorf("CheckOf(%d, %q) failed", start, s)
 	}
 	return check
+}
+
+func matrix(rows, columns int64, numbers ...float32) impl.Matrix {
+	return impl.Matrix{Rows: rows, Columns: columns, Numbers: numbers}
+}
+
+// filled returns a matrix of one number.
+func filled(rows, columns int64, x float32) impl.Matrix {
+	return matrix(rows, columns, repeated(x, int(rows*columns))...)
+}
+
+// drawn returns a matrix of numbers from -1 to 1.
+func drawn(t *testing.T, rows, columns, seed int64) impl.Matrix {
+	t.Helper()
+	a, _, ok := impl.DrawnMatrix(rows, columns, seed)
+	wantBool(t, "DrawnMatrix", ok, true)
+	return a
+}
+
+func toldMatrix(a impl.Matrix) string {
+	return fmt.Sprintf("%d x %d %08x", a.Rows, a.Columns, toldList(a.Numbers))
+}
+
+func toldList(list []float32) []int64 {
+	bits := make([]int64, len(list))
+	for i, x := range list {
+		bits[i] = told(x)
+	}
+	return bits
+}
+
+func wantMatrix(t *testing.T, what string, got impl.Matrix, ok bool, want impl.Matrix) {
+	t.Helper()
+	if !ok || toldMatrix(got) != toldMatrix(want) {
+		t.Errorf("%s: got %s %v, want %s", what, toldMatrix(got), ok, toldMatrix(want))
+	}
+}
+
+func wantNoMatrix(t *testing.T, what string, got impl.Matrix, ok bool) {
+	t.Helper()
+	if ok || got.Rows != 0 || got.Columns != 0 || len(got.Numbers) != 0 {
+		t.Errorf("%s: got %s %v, want nothing", what, toldMatrix(got), ok)
+	}
+}
+
+func wantList(t *testing.T, what string, got []float32, ok bool, want ...float32) {
+	t.Helper()
+	if !ok || fmt.Sprint(toldList(got)) != fmt.Sprint(toldList(want)) {
+		t.Errorf("%s: got %08x %v, want %08x", what, toldList(got), ok, toldList(want))
+	}
+}
+
+func wantNothing[T any](t *testing.T, what string, got []T, ok bool) {
+	t.Helper()
+	if ok || len(got) != 0 {
+		t.Errorf("%s: got %v %v, want nothing", what, got, ok)
+	}
+}
+
+func wantResult(t *testing.T, what string, got float32, ok bool, want float32) {
+	t.Helper()
+	if !ok || told(got) != told(want) {
+		t.Errorf("%s: got %08x %v, want %08x", what, told(got), ok, told(want))
+	}
+}
+
+func wantNoResult(t *testing.T, what string, got float32, ok bool) {
+	t.Helper()
+	if ok || told(got) != 0 {
+		t.Errorf("%s: got %08x %v, want nothing", what, told(got), ok)
+	}
+}
+
+var (
+	minusZero = number(0x80000000)
+	infinite  = number(0x7f800000)
+	greatest  = number(0x7f7fffff)
+)
+
+// notFinite are the numbers that no matrix and no vector has.
+func notFinite() []float32 {
+	return []float32{infinite, -infinite, number(0x7fc00000), number(0xff800001)}
+}
+
+// notMatrices are values that are not valid matrices, each for one reason.
+func notMatrices() []impl.Matrix {
+	list := []impl.Matrix{
+		{}, matrix(0, 0, 1), matrix(0, 1), matrix(1, 0), matrix(0, 4, 1, 2, 3, 4), matrix(1, 1), matrix(1, 1, 1, 2), matrix(2, 2, 1, 2, 3),
+		matrix(2, 2, 1, 2, 3, 4, 5), matrix(-1, -1, 1), matrix(-2, 2, 1, 2, 3, 4), matrix(-2, -2, 1, 2, 3, 4),
+		filled(13, 1, 1), filled(1, 13, 1), filled(13, 13, 1), matrix(12, 13, repeated[float32](1, 144)...),
+		matrix(1<<32, 1<<32), matrix(math.MinInt64, 2), matrix(1<<62, 4), matrix(math.MaxInt64, math.MaxInt64, 1), matrix(math.MinInt64, math.MinInt64),
+	}
+	for _, x := range notFinite() {
+		list = append(list, matrix(1, 1, x), matrix(2, 2, x, 1, 1, 1), matrix(2, 2, 1, 1, 1, x))
+	}
+	return list
+}
+
+// notVectors are lists that are not vectors.
+func notVectors() [][]float32 {
+	list := [][]float32{nil, {}, repeated[float32](1, 257)}
+	for _, x := range notFinite() {
+		list = append(list, []float32{x}, []float32{x, 1}, []float32{1, x})
+	}
+	return list
+}
+
+// notOrders are lists that are not orders.
+func notOrders() [][]int64 {
+	return [][]int64{
+		nil, {}, {1}, {-1}, {0, 0}, {1, 1}, {1, 2}, {0, 2}, {0, 1, 1}, {2, 1, 2}, {0, -1}, {3, 1, 2}, {1, 0, 3},
+		{0, 1, 2, 3, 4, 5, 6, 7, 8, 9, 10, 11, 12}, {12, 1, 2, 3, 4, 5, 6, 7, 8, 9, 10, 11}, {0, 1, 2, 3, 4, 5, 6, 7, 8, 9, 10, 10},
+		{math.MaxInt64}, {math.MinInt64, 0}, {1 << 32, 0},
+	}
 }
