@@ -206,3 +206,68 @@ func notOrders() [][]int64 {
 		{math.MaxInt64}, {math.MinInt64, 0}, {1 << 32, 0},
 	}
 }
+
+func factor(square impl.Matrix, order ...int64) impl.Factor {
+	return impl.Factor{Square: square, Order: order}
+}
+
+func toldFactor(f impl.Factor) string {
+	return toldMatrix(f.Square) + " " + fmt.Sprint(f.Order)
+}
+
+func wantFactor(t *testing.T, what string, got impl.Factor, ok bool, want impl.Factor) {
+	t.Helper()
+	if !ok || toldFactor(got) != toldFactor(want) {
+		t.Errorf("%s: got %s %v, want %s", what, toldFactor(got), ok, toldFactor(want))
+	}
+}
+
+func wantNoFactor(t *testing.T, what string, got impl.Factor, ok bool) {
+	t.Helper()
+	wantNoMatrix(t, what, got.Square, ok)
+	wantNothing(t, what, got.Order, ok)
+}
+
+// wantOrder compares lists of integers and how many of something there are.
+func wantOrder(t *testing.T, what string, list []int64, count int64, ok bool, want []int64, wantCount int64) {
+	t.Helper()
+	if !ok || fmt.Sprint(list) != fmt.Sprint(want) || count != wantCount {
+		t.Errorf("%s: got %v %d %v, want %v %d", what, list, count, ok, want, wantCount)
+	}
+}
+
+// notSquares are values that are not valid squares.
+func notSquares() []impl.Matrix {
+	return append(notMatrices(), matrix(1, 2, 1, 2), matrix(2, 1, 1, 2), filled(12, 11, 1), filled(11, 12, 1))
+}
+
+// notFactors are values that are not valid factors.
+func notFactors() []impl.Factor {
+	unit := matrix(2, 2, 1, 0, 0, 1)
+	list := []impl.Factor{
+		{}, factor(matrix(2, 2, 0, 1, 1, 1), 0, 1), factor(matrix(2, 2, 1, 1, 1, minusZero), 0, 1), factor(matrix(1, 1, 0), 0), factor(matrix(1, 1, minusZero), 0),
+		factor(matrix(3, 3, 1, 0, 0, 0, 0, 0, 0, 0, 1), 0, 1, 2), factor(unit, 0), factor(unit, 0, 1, 2), factor(matrix(1, 1, 1), 0, 1), factor(matrix(1, 1, 1), 1, 0),
+	}
+	for _, a := range notSquares() {
+		list = append(list, factor(a, 0), factor(a, 1, 0))
+	}
+	for _, order := range notOrders() {
+		list = append(list, factor(unit, order...), factor(matrix(1, 1, 1), order...))
+	}
+	return list
+}
+
+// notPairs are lists that are not vectors of two numbers.
+func notPairs() [][]float32 {
+	return append(notVectors(), []float32{1}, []float32{1, 2, 3}, repeated[float32](1, 12), repeated[float32](1, 256))
+}
+
+// middle returns the square with some numbers in its middle.
+func middle(numbers ...float32) impl.Matrix {
+	n := int64(len(numbers))
+	square := filled(n, n, 0)
+	for i, x := range numbers {
+		square.Numbers[int64(i)*(n+1)] = x
+	}
+	return square
+}
