@@ -271,3 +271,23 @@ func middle(numbers ...float32) impl.Matrix {
 	}
 	return square
 }
+
+func chain(mids []float32, sides ...float32) impl.Chain {
+	return impl.Chain{Mids: mids, Sides: sides}
+}
+
+func toldChain(c impl.Chain) string {
+	return fmt.Sprintf("%08x beside %08x", toldList(c.Mids), toldList(c.Sides))
+}
+
+// notChains are values that are not valid chains, each for one reason.
+func notChains() []impl.Chain {
+	list := []impl.Chain{
+		{}, chain([]float32{}), chain(nil, 1), chain([]float32{1}, 1), chain([]float32{1, 2}), chain([]float32{1, 2}, 1, 1), chain([]float32{1, 2, 3}, 1),
+		chain(repeated[float32](1, 13), repeated[float32](1, 12)...), chain(repeated[float32](1, 12), repeated[float32](1, 12)...), chain(repeated[float32](1, 12), repeated[float32](1, 10)...),
+	}
+	for _, x := range notFinite() {
+		list = append(list, chain([]float32{x}), chain([]float32{1, x}, 1), chain([]float32{x, 1}, 1), chain([]float32{1, 1, 1}, 1, x), chain([]float32{1, 1, 1}, x, 1))
+	}
+	return list
+}
