@@ -291,3 +291,85 @@ func notChains() []impl.Chain {
 	}
 	return list
 }
+
+// untold stands for a number that a sparse square does not tell.
+var untold = number(noNumberBits)
+
+// few returns the square of numbers row by row, of which those that are not untold are told.
+func few(side int64, numbers ...float32) impl.Sparse {
+	a := impl.Sparse{Side: side, Starts: []int64{0}}
+	for i, x := range numbers {
+		if told(x) != noNumberBits {
+			a.Columns = append(a.Columns, int64(i)%side)
+			a.Values = append(a.Values, x)
+		}
+		if int64(i)%side == side-1 {
+			a.Starts = append(a.Starts, int64(len(a.Columns)))
+		}
+	}
+	return a
+}
+
+// fewAt returns the square that tells x where isTold.
+func fewAt(side int64, x float32, isTold func(i, k int64) bool) impl.Sparse {
+	numbers := repeated(untold, int(side*side))
+	for i := range numbers {
+		if isTold(int64(i)/side, int64(i)%side) {
+			numbers[i] = x
+		}
+	}
+	return few(side, numbers...)
+}
+
+// nothing returns the square of side rows that tells nothing.
+func nothing(side int64) impl.Sparse {
+	return fewAt(side, 1, func(i, k int64) bool { return false })
+}
+
+// whole returns the square of side rows that tells x everywhere, in rows before rows.
+func whole(side, rows int64, x float32) impl.Sparse {
+	return fewAt(side, x, func(i, k int64) bool { return i < rows })
+}
+
+func toldSparse(a impl.Sparse) string {
+	return fmt.Sprintf("%d rows %d %d %08x", a.Side, a.Starts, a.Columns, toldList(a.Values))
+}
+
+func wantSparse(t *testing.T, what string, got impl.Sparse, ok bool, want impl.Sparse) {
+	t.Helper()
+	if !ok || toldSparse(got) != toldSparse(want) {
+		t.Errorf("%s: got %s %v, want %s", what, toldSparse(got), ok, toldSparse(want))
+	}
+}
+
+func wantNoSparse(t *testing.T, what string, got impl.Sparse, ok bool) {
+	t.Helper()
+	if ok || toldSparse(got) != toldSparse(impl.Sparse{}) {
+		t.Errorf("%s: got %s %v, want nothing", what, toldSparse(got), ok)
+	}
+}
+
+func square(side int64, starts, columns []int64, values ...float32) impl.Sparse {
+	return impl.Sparse{Side: side, Starts: starts, Columns: columns, Values: values}
+}
+
+// notSparse are values that are not valid sparse squares, each for one reason.
+func notSparse() []impl.Sparse {
+	list := []impl.Sparse{
+		{}, square(1, nil, nil), square(0, []int64{0}, nil), square(-1, nil, nil), square(-1, []int64{0}, nil), square(2, []int64{0, 0}, nil), square(2, []int64{0, 0, 0, 0}, nil), square(1, []int64{}, []int64{0}, 1),
+		nothing(33), whole(33, 1, 1), square(math.MaxInt64, nil, nil), square(math.MinInt64, nil, nil), square(1<<32, []int64{0}, nil), square(math.MaxInt64, []int64{0, 0}, nil),
+		// Starts that do not begin with 0, fall, or do not end with the number of Columns
+		square(1, []int64{1, 1}, []int64{0}, 1), square(1, []int64{-1, 1}, []int64{0}, 1), square(2, []int64{1, 1, 2}, []int64{0, 1}, 1, 2), square(2, []int64{0, 2, 1}, []int64{0}, 1), square(3, []int64{0, 2, 1, 2}, []int64{0, 1}, 1, 2), square(2, []int64{0, -1, 1}, []int64{0}, 1),
+		square(3, []int64{0, 3, 1, 2}, []int64{0, 1}, 1, 2), square(1, []int64{0, 0}, []int64{0}, 1), square(1, []int64{0, 2}, []int64{0}, 1), square(1, []int64{0, 1}, nil), square(2, []int64{0, 1, 1}, []int64{0, 1}, 1, 2), square(2, []int64{0, math.MaxInt64, 1}, []int64{0}, 1), square(2, []int64{0, math.MinInt64, 1}, []int64{0}, 1),
+		// more or fewer Columns than Values
+		square(1, []int64{0, 1}, []int64{0}), square(1, []int64{0, 1}, []int64{0}, 1, 2), square(1, []int64{0, 1}, nil, 1), square(2, []int64{0, 1, 2}, []int64{0, 1}, 1), square(2, []int64{0, 1, 2}, []int64{0, 1}, 1, 2, 3), square(1, []int64{0, 0}, nil, 1),
+		// Columns that are no columns, out of order, or twice
+		square(1, []int64{0, 1}, []int64{1}, 1), square(1, []int64{0, 1}, []int64{-1}, 1), square(2, []int64{0, 0, 1}, []int64{2}, 1), square(2, []int64{0, 2, 2}, []int64{1, 0}, 1, 2), square(2, []int64{0, 2, 2}, []int64{1, 1}, 1, 2), square(2, []int64{0, 0, 2}, []int64{0, 0}, 1, 2), square(3, []int64{0, 0, 0, 3}, []int64{0, 2, 1}, 1, 2, 3),
+		square(2, []int64{0, 1, 2}, []int64{0, math.MinInt64}, 1, 2), square(2, []int64{0, 1, 2}, []int64{math.MaxInt64, 0}, 1, 2), square(1, []int64{0, 2}, []int64{0, 0}, 1, 2),
+		fewAt(32, 1, func(i, k int64) bool { return i < 16 || i == 31 && k == 31 }), whole(23, 23, 1), whole(32, 32, 1), // 513, 529 and 1024 numbers
+	}
+	for _, x := range []float32{infinite, -infinite, number(0xff800001), untold} {
+		list = append(list, square(1, []int64{0, 1}, []int64{0}, x), square(2, []int64{0, 2, 3}, []int64{0, 1, 1}, x, 1, 1), square(2, []int64{0, 1, 3}, []int64{1, 0, 1}, 1, 1, x))
+	}
+	return list
+}
