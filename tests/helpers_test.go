@@ -2,7 +2,10 @@ package tests
 
 import (
 	"fmt"
+	"hash/fnv"
 	"math"
+	"strings"
+	"sync"
 	"testing"
 
 	"loop.example/g01327/impl"
@@ -372,4 +375,155 @@ func notSparse() []impl.Sparse {
 		list = append(list, square(1, []int64{0, 1}, []int64{0}, x), square(2, []int64{0, 2, 3}, []int64{0, 1, 1}, x, 1, 1), square(2, []int64{0, 1, 3}, []int64{1, 0, 1}, 1, 1, x))
 	}
 	return list
+}
+
+func integers(rows, columns int64, numbers ...int64) impl.Whole {
+	return impl.Whole{Rows: rows, Columns: columns, Numbers: numbers}
+}
+
+// allOf returns integers that are all the same.
+func allOf(rows, columns, n int64) impl.Whole {
+	return integers(rows, columns, repeated(n, int(rows*columns))...)
+}
+
+// inMiddle returns the square with some integers in its middle.
+func inMiddle(numbers ...int64) impl.Whole {
+	n := int64(len(numbers))
+	w := allOf(n, n, 0)
+	for i, x := range numbers {
+		w.Numbers[int64(i)*(n+1)] = x
+	}
+	return w
+}
+
+func toldWhole(w impl.Whole) string {
+	return fmt.Sprintf("%d x %d %d", w.Rows, w.Columns, w.Numbers)
+}
+
+func wantWhole(t *testing.T, what string, got impl.Whole, ok bool, want impl.Whole) {
+	t.Helper()
+	if !ok || toldWhole(got) != toldWhole(want) {
+		t.Errorf("%s: got %s %v, want %s", what, toldWhole(got), ok, toldWhole(want))
+	}
+}
+
+func wantNoWhole(t *testing.T, what string, got impl.Whole, ok bool) {
+	t.Helper()
+	if ok || toldWhole(got) != toldWhole(impl.Whole{}) {
+		t.Errorf("%s: got %s %v, want nothing", what, toldWhole(got), ok)
+	}
+}
+
+func wantInteger(t *testing.T, what string, got int64, ok bool, want int64) {
+	t.Helper()
+	if !ok || got != want {
+		t.Errorf("%s: got %d %v, want %d", what, got, ok, want)
+	}
+}
+
+func wantNoInteger(t *testing.T, what string, got int64, ok bool) {
+	t.Helper()
+	if ok || got != 0 {
+		t.Errorf("%s: got %d %v, want nothing", what, got, ok)
+	}
+}
+
+func wantIntegers(t *testing.T, what string, got []int64, ok bool, want ...int64) {
+	t.Helper()
+	wantOrder(t, what, got, 0, ok, want, 0)
+}
+
+// notWholes are values that are not valid, each for one reason.
+func notWholes() []impl.Whole {
+	list := []impl.Whole{
+		{}, integers(0, 0, 1), integers(0, 1), integers(1, 0), integers(0, 4, 1, 2, 3, 4), integers(1, 1), integers(1, 1, 1, 2), integers(2, 2, 1, 2, 3), integers(2, 2, 1, 2, 3, 4, 5),
+		integers(-1, -1, 1), integers(-2, 2, 1, 2, 3, 4), integers(-2, -2, 1, 2, 3, 4), allOf(7, 1, 1), allOf(1, 7, 1), allOf(7, 7, 1), allOf(12, 3, 1), allOf(3, 12, 1), integers(6, 7, repeated[int64](1, 36)...),
+		integers(1<<32, 1<<32), integers(math.MinInt64, 2), integers(1<<62, 4), integers(math.MaxInt64, math.MaxInt64, 1), integers(math.MinInt64, math.MinInt64),
+	}
+	for _, n := range []int64{1000001, -1000001, math.MaxInt64, math.MinInt64, 1 << 32, -1 << 32} {
+		list = append(list, integers(1, 1, n), integers(2, 2, n, 1, 1, 1), integers(2, 2, 1, 1, 1, n))
+	}
+	return list
+}
+
+// notLow are values that are not low: those that are not valid, and some that are.
+func notLow() []impl.Whole {
+	list := append(notWholes(), allOf(6, 6, 1000000), allOf(1, 6, -1000000))
+	for _, n := range []int64{101, -101, 1000000, -1000000} {
+		list = append(list, integers(1, 1, n), integers(2, 2, n, 1, 1, 1), integers(2, 2, 1, 1, 1, n))
+	}
+	return list
+}
+
+// notLowSquares are values that are not low squares.
+func notLowSquares() []impl.Whole {
+	return append(notLow(), integers(1, 2, 1, 2), integers(2, 1, 1, 2), allOf(6, 5, 1), allOf(5, 6, 1), allOf(3, 4, 0))
+}
+
+// outside are numbers that are no index of 3 rows, and no number of rows.
+func outside() []int64 {
+	return []int64{-1, 7, 13, math.MinInt64, math.MaxInt64, 1 << 32, -1 << 32}
+}
+
+// teller keeps what a function tells by its name.
+type teller func(name string, ok bool, parts ...any)
+
+// telling returns texts, and what keeps in them what functions tell.
+func telling() (map[string]string, teller) {
+	texts := map[string]string{}
+	return texts, func(name string, ok bool, parts ...any) {
+		texts[name] = "fail"
+		if ok {
+			texts[name] = strings.TrimSpace(fmt.Sprintln(parts...))
+		}
+	}
+}
+
+// wantTexts compares what functions tell with a row of a table.
+func wantTexts(t *testing.T, what string, got, want map[string]string) {
+	t.Helper()
+	for name, text := range want {
+		if got[name] != text {
+			t.Errorf("%s of %s: got %s, want %s", name, what, got[name], text)
+		}
+	}
+}
+
+// wantHashes compares the hashes of all that each function tells.
+func wantHashes(t *testing.T, texts []map[string]string, hashes map[string]uint64) {
+	t.Helper()
+	for name, want := range hashes {
+		hash := fnv.New64a()
+		for _, list := range texts {
+			fmt.Fprintln(hash, list[name])
+		}
+		if got := hash.Sum64(); got != want {
+			t.Errorf("%s: got %016x, want %016x", name, got, want)
+		}
+	}
+}
+
+// wantEqualResults checks that what is told of each pair of indices is the same each time,
+// whoever calls.
+func wantEqualResults(t *testing.T, former, latter int, tell func(i, k int) string) {
+	t.Helper()
+	first := map[[2]int]string{}
+	for i := range former {
+		for k := range latter {
+			first[[2]int{i, k}] = tell(i, k)
+		}
+	}
+	var group sync.WaitGroup
+	for range 4 {
+		group.Go(func() {
+			for i := range former {
+				for k := range latter {
+					if got := tell(i, k); got != first[[2]int{i, k}] {
+						t.Errorf("%d and %d: got %s, and %s before", i, k, got, first[[2]int{i, k}])
+					}
+				}
+			}
+		})
+	}
+	group.Wait()
 }

@@ -3,7 +3,6 @@ package tests
 import (
 	"fmt"
 	"slices"
-	"sync"
 	"testing"
 
 	"loop.example/g01327/impl"
@@ -173,25 +172,7 @@ func TestPromise1EqualMatrices(t *testing.T) {
 	tell := func(i, k int) string {
 		return matrixResults(matrices[i], matrices[k], vectors[(i+k)%len(vectors)], orders[(i+2*k)%len(orders)], counts[(2*i+k)%len(counts)])
 	}
-	first := map[[2]int]string{}
-	for i := range matrices {
-		for k := range matrices {
-			first[[2]int{i, k}] = tell(i, k)
-		}
-	}
-	var group sync.WaitGroup
-	for range 4 {
-		group.Go(func() {
-			for i := range matrices {
-				for k := range matrices {
-					if got := tell(i, k); got != first[[2]int{i, k}] {
-						t.Errorf("%d and %d: got %s, and %s before", i, k, got, first[[2]int{i, k}])
-					}
-				}
-			}
-		})
-	}
-	group.Wait()
+	wantEqualResults(t, len(matrices), len(matrices), tell)
 }
 
 // P1: no function modifies an argument, or the room behind it.

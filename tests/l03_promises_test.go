@@ -4,7 +4,6 @@ import (
 	"fmt"
 	"math"
 	"slices"
-	"sync"
 	"testing"
 
 	"loop.example/g01327/impl"
@@ -319,25 +318,7 @@ func TestPromise1EqualFactors(t *testing.T) {
 		}
 		return out
 	}
-	first := map[[2]int]string{}
-	for i := range matrices {
-		for k := range vectors {
-			first[[2]int{i, k}] = tell(i, k)
-		}
-	}
-	var group sync.WaitGroup
-	for range 4 {
-		group.Go(func() {
-			for i := range matrices {
-				for k := range vectors {
-					if got := tell(i, k); got != first[[2]int{i, k}] {
-						t.Errorf("%d and %d: got %s, and %s before", i, k, got, first[[2]int{i, k}])
-					}
-				}
-			}
-		})
-	}
-	group.Wait()
+	wantEqualResults(t, len(matrices), len(vectors), tell)
 }
 
 // P1: no function modifies an argument, or the room behind it.

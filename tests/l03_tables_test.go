@@ -2,8 +2,6 @@ package tests
 
 import (
 	"fmt"
-	"hash/fnv"
-	"strings"
 	"testing"
 
 	"loop.example/g01327/impl"
@@ -39,13 +37,7 @@ func factorTexts(t *testing.T, kind int, n, seed int64) map[string]string {
 	column, _ := chosen(t, kind, 1, tall.Rows, seed)
 	v, w := row.Numbers, column.Numbers
 	flip, _ := impl.FlipMatrix(tall)
-	texts := map[string]string{}
-	tell := func(name string, ok bool, parts ...any) {
-		texts[name] = "fail"
-		if ok {
-			texts[name] = strings.TrimSpace(fmt.Sprintln(parts...))
-		}
-	}
+	texts, tell := telling()
 	f, ok := impl.FactorRows(a)
 	tell("FactorRows", ok, toldFactor(f))
 	tellFactor(f, a, v, tell)
@@ -61,8 +53,6 @@ func factorTexts(t *testing.T, kind int, n, seed int64) map[string]string {
 	tellMirrors(a, tall, flip, v, w, tell)
 	return texts
 }
-
-type teller func(name string, ok bool, parts ...any)
 
 func toldText(x float32) string {
 	return fmt.Sprintf("%08x", told(x))
@@ -207,11 +197,7 @@ func TestTableOfFactors(t *testing.T) {
 	}
 	for _, r := range rows {
 		got := factorTexts(t, r.kind, r.n, r.seed)
-		for name, want := range r.want {
-			if got[name] != want {
-				t.Errorf("%s of kind %d: got %s, want %s", name, r.kind, got[name], want)
-			}
-		}
+		wantTexts(t, fmt.Sprint("kind ", r.kind), got, r.want)
 		wantBool(t, "all functions are told", len(got) == len(r.want), true)
 	}
 }
@@ -251,13 +237,5 @@ func TestHashesOfFactors(t *testing.T) {
 			}
 		}
 	}
-	for name, want := range hashes {
-		hash := fnv.New64a()
-		for _, list := range texts {
-			fmt.Fprintln(hash, list[name])
-		}
-		if got := hash.Sum64(); got != want {
-			t.Errorf("%s: got %016x, want %016x", name, got, want)
-		}
-	}
+	wantHashes(t, texts, hashes)
 }

@@ -2,8 +2,6 @@ package tests
 
 import (
 	"fmt"
-	"hash/fnv"
-	"strings"
 	"testing"
 
 	"loop.example/g01327/impl"
@@ -38,13 +36,7 @@ func valueInputs(t *testing.T, kind int, n, seed int64) valueInput {
 
 // valueTexts tells the results of the functions of chapter 4.
 func valueTexts(in valueInput) map[string]string {
-	texts := map[string]string{}
-	tell := func(name string, ok bool, parts ...any) {
-		texts[name] = "fail"
-		if ok {
-			texts[name] = strings.TrimSpace(fmt.Sprintln(parts...))
-		}
-	}
+	texts, tell := telling()
 	tellChain(in.c, in.v, tell)
 	tellTurns(in.square, in.symmetric, in.rounds, tell)
 	tellVectors(in.square, in.v, in.w, in.rounds, tell)
@@ -174,11 +166,7 @@ func TestTableOfValues(t *testing.T) {
 	}
 	for _, r := range rows {
 		got := valueTexts(valueInputs(t, r.kind, r.n, r.seed))
-		for name, want := range r.want {
-			if got[name] != want {
-				t.Errorf("%s of kind %d: got %s, want %s", name, r.kind, got[name], want)
-			}
-		}
+		wantTexts(t, fmt.Sprint("kind ", r.kind), got, r.want)
 		wantBool(t, "all functions are told", len(got) == len(r.want), true)
 	}
 }
@@ -213,13 +201,5 @@ func TestHashesOfValues(t *testing.T) {
 			}
 		}
 	}
-	for name, want := range hashes {
-		hash := fnv.New64a()
-		for _, list := range texts {
-			fmt.Fprintln(hash, list[name])
-		}
-		if got := hash.Sum64(); got != want {
-			t.Errorf("%s: got %016x, want %016x", name, got, want)
-		}
-	}
+	wantHashes(t, texts, hashes)
 }

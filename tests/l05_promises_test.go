@@ -4,7 +4,6 @@ import (
 	"fmt"
 	"math"
 	"slices"
-	"sync"
 	"testing"
 
 	"loop.example/g01327/impl"
@@ -270,25 +269,7 @@ func TestPromise1EqualSparse(t *testing.T) {
 	tell := func(i, k int) string {
 		return sparseResults(squares[i], squares[(7*i+k)%len(squares)], entries[(i+k)%len(entries)], vectors[k], lists[(i+2*k)%len(lists)], counts[(i+k)%len(counts)], numbers[(2*i+k)%len(numbers)])
 	}
-	first := map[[2]int]string{}
-	for i := range squares {
-		for k := range vectors {
-			first[[2]int{i, k}] = tell(i, k)
-		}
-	}
-	var group sync.WaitGroup
-	for range 4 {
-		group.Go(func() {
-			for i := range squares {
-				for k := range vectors {
-					if got := tell(i, k); got != first[[2]int{i, k}] {
-						t.Errorf("%d and %d: got %s, and %s before", i, k, got, first[[2]int{i, k}])
-					}
-				}
-			}
-		})
-	}
-	group.Wait()
+	wantEqualResults(t, len(squares), len(vectors), tell)
 }
 
 // guardedSparse returns a square with spare room behind its lists, and what tells whether they,

@@ -2,8 +2,6 @@ package tests
 
 import (
 	"fmt"
-	"hash/fnv"
-	"strings"
 	"testing"
 
 	"loop.example/g01327/impl"
@@ -120,13 +118,7 @@ func sparseInputs(kind int, side, seed int64) sparseInput {
 
 // sparseTexts tells the results of the functions of chapter 5.
 func sparseTexts(in sparseInput) map[string]string {
-	texts := map[string]string{}
-	tell := func(name string, ok bool, parts ...any) {
-		texts[name] = "fail"
-		if ok {
-			texts[name] = strings.TrimSpace(fmt.Sprintln(parts...))
-		}
-	}
+	texts, tell := telling()
 	tellRows(in, tell)
 	for name, f := range graphOrders() {
 		list, ok := f(in.a)
@@ -243,11 +235,7 @@ func TestTableOfSparse(t *testing.T) {
 	}
 	for _, r := range rows {
 		got := sparseTexts(sparseInputs(r.kind, r.side, r.seed))
-		for name, want := range r.want {
-			if got[name] != want {
-				t.Errorf("%s of kind %d: got %s, want %s", name, r.kind, got[name], want)
-			}
-		}
+		wantTexts(t, fmt.Sprint("kind ", r.kind), got, r.want)
 		wantBool(t, "all functions are told", len(got) == len(r.want)+impl.MaxCrew, true)
 		for workers := 1; workers <= impl.MaxCrew; workers++ {
 			wantBool(t, "workers tell the same", got[fmt.Sprint("SparseShared by ", workers)] == r.want["SparseTimes"], true)
@@ -286,13 +274,5 @@ func TestHashesOfSparse(t *testing.T) {
 			}
 		}
 	}
-	for name, want := range hashes {
-		hash := fnv.New64a()
-		for _, list := range texts {
-			fmt.Fprintln(hash, list[name])
-		}
-		if got := hash.Sum64(); got != want {
-			t.Errorf("%s: got %016x, want %016x", name, got, want)
-		}
-	}
+	wantHashes(t, texts, hashes)
 }
