@@ -460,6 +460,118 @@ func notLowSquares() []impl.Whole {
 	return append(notLow(), integers(1, 2, 1, 2), integers(2, 1, 1, 2), allOf(6, 5, 1), allOf(5, 6, 1), allOf(3, 4, 0))
 }
 
+func toldRing(list []complex64) string {
+	pairs := make([][2]int64, len(list))
+	for i, x := range list {
+		pairs[i] = toldPair(x)
+	}
+	return fmt.Sprintf("%08x", pairs)
+}
+
+func wantRing(t *testing.T, what string, got []complex64, ok bool, want ...complex64) {
+	t.Helper()
+	if !ok || toldRing(got) != toldRing(want) {
+		t.Errorf("%s: got %s %v, want %s", what, toldRing(got), ok, toldRing(want))
+	}
+}
+
+// pairs returns complex numbers with the given bits of both parts, one after another.
+func pairs(bits ...int64) []complex64 {
+	var list []complex64
+	for i := 0; i < len(bits); i += 2 {
+		list = append(list, pair([2]int64{bits[i], bits[i+1]}))
+	}
+	return list
+}
+
+// notRings are lists that are not rings.
+func notRings() [][]complex64 {
+	list := [][]complex64{nil, {}, repeated[complex64](1, 33), repeated[complex64](1, 256), repeated[complex64](1, 257)}
+	for _, x := range notFinite() {
+		list = append(list, []complex64{complex(x, 0)}, []complex64{complex(0, x)}, []complex64{complex(x, x)}, []complex64{1, complex(x, 1)}, []complex64{complex(1, x), 1}, append(repeated[complex64](1, 31), complex(0, x)))
+	}
+	return list
+}
+
+// notFirstRows are lists that do not tell a square.
+func notFirstRows() [][]float32 {
+	return append(notVectors(), repeated[float32](1, 13), repeated[float32](1, 32), append(repeated[float32](1, 11), infinite))
+}
+
+func thirds(lower, middle, upper []float32) impl.Thirds {
+	return impl.Thirds{Lower: lower, Middle: middle, Upper: upper}
+}
+
+// evenThirds returns thirds of count rows, with the same three numbers in each.
+func evenThirds(count int, lower, middle, upper float32) impl.Thirds {
+	t := thirds(repeated(lower, count), repeated(middle, count), repeated(upper, count))
+	t.Lower[0], t.Upper[count-1] = 0, 0
+	return t
+}
+
+func toldThirds(t impl.Thirds) string {
+	return fmt.Sprintf("%08x %08x %08x", toldList(t.Lower), toldList(t.Middle), toldList(t.Upper))
+}
+
+// notThirds are values that are not valid thirds, each for one reason.
+func notThirds() []impl.Thirds {
+	one, two := []float32{1}, []float32{1, 2}
+	list := []impl.Thirds{
+		{}, thirds([]float32{}, []float32{}, []float32{}), thirds(nil, one, nil), thirds([]float32{0}, nil, []float32{0}), thirds([]float32{0}, one, nil), thirds(nil, one, []float32{0}),
+		thirds([]float32{0, 1}, one, []float32{0}), thirds([]float32{0}, one, []float32{0, 0}), thirds([]float32{0}, two, []float32{1, 0}), thirds([]float32{0, 1}, two, []float32{0}), thirds([]float32{0, 1}, two, []float32{1, 1, 0}),
+		evenThirds(33, 1, 4, 1), evenThirds(257, 1, 4, 1),
+		// Lower begins, or Upper ends, with another number than a zero
+		thirds(one, one, []float32{0}), thirds([]float32{0}, one, one), thirds([]float32{number(1), 1}, two, []float32{1, 0}), thirds([]float32{0, 1}, two, []float32{1, number(0x80000001)}), thirds([]float32{-1, 0}, two, []float32{0, 0}), thirds([]float32{0, 0}, two, []float32{0, greatest}),
+	}
+	for _, x := range notFinite() {
+		list = append(list, thirds([]float32{0}, []float32{x}, []float32{0}), thirds([]float32{x}, one, []float32{0}), thirds([]float32{0}, one, []float32{x}))
+		list = append(list, thirds([]float32{0, x}, two, []float32{1, 0}), thirds([]float32{0, 1}, []float32{1, x}, []float32{1, 0}), thirds([]float32{0, 1}, two, []float32{x, 0}))
+	}
+	return list
+}
+
+func sheet(name string, a impl.Matrix) impl.Sheet {
+	return impl.Sheet{Name: name, Matrix: a}
+}
+
+func toldSheets(list []impl.Sheet) string {
+	text := ""
+	for _, s := range list {
+		text += s.Name + " " + toldMatrix(s.Matrix) + ";"
+	}
+	return text
+}
+
+func wantSheets(t *testing.T, what string, got []impl.Sheet, size int64, want []impl.Sheet, wantSize int64) {
+	t.Helper()
+	if toldSheets(got) != toldSheets(want) || size != wantSize {
+		t.Errorf("%s: got %s %d, want %s %d", what, toldSheets(got), size, toldSheets(want), wantSize)
+	}
+}
+
+func wantNoSheet(t *testing.T, what string, got impl.Sheet, ok bool) {
+	t.Helper()
+	wantNoMatrix(t, what, got.Matrix, ok)
+	wantBool(t, what+" has a name", got.Name == "", true)
+}
+
+// notNames are no names of sheets.
+func notNames() []string {
+	return []string{"", "abcdefghi", "A", "aB", "a1", "0", " ", "a ", " a", "a\x00", "\x00", "`", "{", "a`", "{a", "é", "a\xff", "\xe1", "abcdefgh\n", "abcdefghabcdefgh"}
+}
+
+// notSheets are sheets that are not valid, each for one reason.
+func notSheets() []impl.Sheet {
+	list := []impl.Sheet{{}}
+	for _, name := range notNames() {
+		list = append(list, sheet(name, matrix(1, 1, 1)))
+	}
+	for _, a := range notMatrices() {
+		list = append(list, sheet("a", a))
+	}
+	return list
+}
+
 // outside are numbers that are no index of 3 rows, and no number of rows.
 func outside() []int64 {
 	return []int64{-1, 7, 13, math.MinInt64, math.MaxInt64, 1 << 32, -1 << 32}
@@ -526,4 +638,18 @@ func wantEqualResults(t *testing.T, former, latter int, tell func(i, k int) stri
 		})
 	}
 	group.Wait()
+}
+
+// wantOwn checks that what functions return is the caller's own: no two lists of a result share
+// memory, and whatever is written into a result, the next one is the same.
+func wantOwn[T int64 | float32](t *testing.T, calls map[string]func() ([][]T, bool)) {
+	t.Helper()
+	for name, call := range calls {
+		got, ok := call()
+		want, _ := call()
+		wantBool(t, name, ok, true)
+		wantApart(t, name, got)
+		again, ok := call()
+		wantBool(t, name+" again", ok && fmt.Sprint(again) == fmt.Sprint(want), true)
+	}
 }

@@ -384,14 +384,7 @@ func TestPromise1WholesAreNew(t *testing.T) {
 		}
 	}
 	calls["NullOver"] = func() ([][]int64, bool) { return impl.NullOver(allOf(2, 6, 1), 5) }
-	for name, call := range calls {
-		got, ok := call()
-		want, _ := call()
-		wantBool(t, name, ok, true)
-		wantApart(t, name, got)
-		again, ok := call()
-		wantNulls(t, name, again, ok, want)
-	}
+	wantOwn(t, calls)
 	a, ok := impl.MatrixOf(w)
 	wantApart(t, "MatrixOf", [][]float32{a.Numbers})
 	wantWhole(t, "a result shares no memory with integers", w, ok, integers(2, 2, 1, 2, 2, 4))
