@@ -653,3 +653,107 @@ func wantOwn[T int64 | float32](t *testing.T, calls map[string]func() ([][]T, bo
 		wantBool(t, name+" again", ok && fmt.Sprint(again) == fmt.Sprint(want), true)
 	}
 }
+
+func toldDesk(d impl.Desk) string {
+	return toldMatrix(d.Matrix) + ", " + fmtBits(d.Vector) + ", " + toldChain(d.Chain) + ", " + toldWhole(d.Whole)
+}
+
+func wantDesk(t *testing.T, what string, got impl.Desk, ok bool, want impl.Desk) {
+	t.Helper()
+	if !ok || toldDesk(got) != toldDesk(want) {
+		t.Errorf("%s: got %s %v, want %s", what, toldDesk(got), ok, toldDesk(want))
+	}
+}
+
+func wantNoDesk(t *testing.T, what string, got impl.Desk, ok bool) {
+	t.Helper()
+	if ok || toldDesk(got) != toldDesk(impl.Desk{}) {
+		t.Errorf("%s: got %s %v, want nothing", what, toldDesk(got), ok)
+	}
+}
+
+// newDesk returns the desk with which one begins, without the program.
+func newDesk() impl.Desk {
+	return impl.Desk{Matrix: matrix(2, 2, 2, 1, 1, 2), Vector: []float32{1, 0}, Chain: chain([]float32{2, 2}, 1), Whole: integers(2, 2, 2, 4, 6, 8)}
+}
+
+// changedDesk returns the desk with which one begins, after a change.
+func changedDesk(change func(d *impl.Desk)) impl.Desk {
+	d := newDesk()
+	change(&d)
+	return d
+}
+
+func deskWithMatrix(a impl.Matrix) impl.Desk {
+	return changedDesk(func(d *impl.Desk) { d.Matrix = a })
+}
+
+func deskWithVector(v ...float32) impl.Desk {
+	return changedDesk(func(d *impl.Desk) { d.Vector = v })
+}
+
+func deskWithChain(c impl.Chain) impl.Desk {
+	return changedDesk(func(d *impl.Desk) { d.Chain = c })
+}
+
+func deskWithWhole(w impl.Whole) impl.Desk {
+	return changedDesk(func(d *impl.Desk) { d.Whole = w })
+}
+
+// notDesks are desks that are not valid, each for one reason.
+func notDesks() []impl.Desk {
+	list := []impl.Desk{{}}
+	for _, a := range notMatrices() {
+		list = append(list, deskWithMatrix(a))
+	}
+	for _, v := range notVectors() {
+		list = append(list, deskWithVector(v...))
+	}
+	for _, c := range notChains() {
+		list = append(list, deskWithChain(c))
+	}
+	for _, w := range notWholes() {
+		list = append(list, deskWithWhole(w))
+	}
+	return list
+}
+
+// slowNumbers returns the text of numbers without the program.
+func slowNumbers(list []float32) string {
+	if len(list) == 0 {
+		return "none"
+	}
+	return strings.Trim(strings.ReplaceAll(fmtBits(list), " ", ","), "[]")
+}
+
+func slowIntegers(list []int64) string {
+	if len(list) == 0 {
+		return "none"
+	}
+	return strings.Trim(strings.ReplaceAll(fmt.Sprint(list), " ", ","), "[]")
+}
+
+func slowMatrixText(a impl.Matrix) string {
+	return slowIntegers([]int64{a.Rows, a.Columns}) + ";" + slowNumbers(a.Numbers)
+}
+
+func slowChainText(c impl.Chain) string {
+	return slowNumbers(c.Mids) + ";" + slowNumbers(c.Sides)
+}
+
+func slowWholeText(w impl.Whole) string {
+	return slowIntegers([]int64{w.Rows, w.Columns}) + ";" + slowIntegers(w.Numbers)
+}
+
+// slowJournal returns the journal of lines, without the program.
+func slowJournal(lines []string) string {
+	var journal strings.Builder
+	check := 0
+	for _, line := range lines {
+		for i := range len(line) {
+			check = (863*check + int(line[i]) + 157) % 65003
+		}
+		fmt.Fprintf(&journal, "%d %s\n", check, line)
+	}
+	return journal.String()
+}
